@@ -1,0 +1,1 @@
+"""Keptbase: transactions and rules by footprints, layers and looks."""
