@@ -4,6 +4,7 @@ import itertools
 import unittest
 
 from keptbase.schema import Schema, Table
+from keptbase.sights import Sight
 from keptbase.spans import Span
 from keptbase.stores import Store
 
@@ -96,6 +97,12 @@ def all_cells(schema):
     """All cells of a finite schema, in the order of cells."""
     return [(table.name, key, field) for table in schema for key in table.key_span.listed()
             for field in ("there", *table.columns)]
+
+
+def all_sights(signs):
+    """For each choice of truths of some signs a sight that gives them."""
+    return [Sight((), [sign for sign, truth in zip(signs, truths) if truth])
+            for truths in itertools.product([False, True], repeat=len(signs))]
 
 
 def cells_apart(first, second):

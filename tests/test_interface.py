@@ -1,0 +1,101 @@
+"""Whether everything that the interface lists is defined where it is listed, with these arguments."""
+
+import importlib
+import inspect
+
+from helpers import KeptCase
+
+FUNCTIONS = {
+    "spans": ["is_content(value)", "rank(content)", "apart(first, second)"],
+    "spantext": ["is_number_text(word)", "content_text(content)", "read_content(word)"],
+    "pieces": ["pieces(domain, spans)", "samples(domain, spans, many)"],
+    "schema": ["is_name(value)"],
+    "rows": ["is_row(table, value)", "picked(table, row, columns)", "replaced(table, row, column, content)",
+             "changed_columns(table, old, new)", "row_text(row)"],
+    "differ": ["differing_cells(first, second)", "difference(first, second)", "steps(first, second)",
+               "agree_on(first, second, area)"],
+    "layers": ["between(first, second)"],
+    "composing": ["broken_place(first, second)", "least_base(first, second)"],
+    "grips": ["layer_area(layer)", "layer_grip(layer)", "sits(layer, store)", "unseated(layer, store)"],
+    "carrying": ["carried(layer, store)", "carried_run(layers, store)", "exchangeable(first, second)"],
+    "sights": ["sign_of(table, test, row)"],
+    "contributions": ["nothing(question)", "shown_contents(question, key, row)",
+                      "contribution(question, key, row, sight)", "contributing(question)"],
+}
+
+CLASSES = {
+    ("spans", "Span(pairs=(), *, has_none=False)"): [
+        "within(self, other)", "listed(self)", "nearest(self, number)", "shifted(self, by)", "__str__(self)",
+        "__eq__(self, other)", "__bool__(self)", "__contains__(self, value)", "__and__(self, other)",
+        "__or__(self, other)", "__sub__(self, other)", "__invert__(self)"],
+    ("pieces", "Piece(span, colour)"): ["members(self, many)"],
+    ("schema", "Table(name, key_span, columns, tests=())"): [
+        "domain_of(self, column)", "position_of(self, column)", "view_of(self, test)", "__eq__(self, other)"],
+    ("schema", "Schema(tables)"): ["__iter__(self)", "table_of(self, name)", "index_of(self, name)",
+                                   "__eq__(self, other)"],
+    ("stores", "Store(schema, rows=())"): [
+        "__iter__(self)", "__eq__(self, other)", "places(self)", "listed_rows(self, table)", "row(self, table, key)",
+        "put(self, table, key, row)", "without(self, table, key)", "written(self, table, key, column, content)"],
+    ("parts", "Part(schema, images=())"): [
+        "__iter__(self)", "__eq__(self, other)", "places(self)", "told_keys(self, table)", "listed_rows(self, table)",
+        "as_store(self)", "tells(self, table, key)", "image(self, table, key)", "agrees(self, store)",
+        "laid_on(self, store)", "joined(self, other)"],
+    ("areas", "Area(schema, entries=())"): [
+        "__iter__(self)", "__eq__(self, other)", "__bool__(self)", "__contains__(self, cell)", "__and__(self, other)",
+        "__or__(self, other)", "__sub__(self, other)", "meets(self, other)", "within(self, other)",
+        "span_of(self, table, field)", "touched(self, table)", "one(self)", "cells(self)"],
+    ("layers", "Layer(schema, changes=())"): [
+        "__iter__(self)", "__eq__(self, other)", "__bool__(self)", "__neg__(self)", "__add__(self, other)",
+        "places(self)", "images(self, table, key)", "fits(self, store)", "lead(self, store)",
+        "inner(self, span, *tables)", "outer(self, span, *tables)"],
+    ("sights", "Sight(defaults=(), exceptions=())"): [
+        "holds(self, sign)", "turned(self, sign, truth)", "with_told(self, told)", "agrees(self, told)"],
+    ("conditions", "Condition()"): [
+        "counts(self, table, key, row, sight)", "judge(self, table, key, row, truths)", "leaves(self)",
+        "__and__(self, other)", "__or__(self, other)", "__invert__(self)"],
+    ("conditions", "Always()"): [],
+    ("conditions", "KeyIn(span)"): [],
+    ("conditions", "CellIn(column, span)"): [],
+    ("conditions", "Unseen(test)"): [],
+    ("conditions", "Both(*parts)"): [],
+    ("conditions", "Either(*parts)"): [],
+    ("conditions", "Not(part)"): [],
+    ("questions", "Question(schema, kind, table, shown=(), *, where=None)"): ["narrowed(self, condition)"],
+}
+
+OFF_THE_CLASS = {
+    ("spans", "Span"): ["everything()", "numbers()", "of(*contents)", "read(text)"],
+    ("parts", "Part"): ["of(store, places)"],
+    ("areas", "Area"): ["of(schema, cells)", "whole(schema)"],
+}
+
+
+class Interface(KeptCase):
+    def found(self, module, name):
+        """What a module defines under a name, and does not import."""
+        value = vars(importlib.import_module(f"keptbase.{module}"))[name]
+        self.assertEqual(value.__module__, f"keptbase.{module}")
+        return value
+
+    def test_functions(self):
+        for module, listed in FUNCTIONS.items():
+            for text in listed:
+                name = text.split("(")[0]
+                self.assertEqual(name + str(inspect.signature(self.found(module, name))), text)
+
+    def test_classes_and_methods_in_their_own_bodies(self):
+        for (module, text), methods in CLASSES.items():
+            name = text.split("(")[0]
+            kind = self.found(module, name)
+            self.assertEqual(name + str(inspect.signature(kind)), text)
+            for method in methods:
+                own = vars(kind)[method.split("(")[0]]
+                self.assertEqual(method.split("(")[0] + str(inspect.signature(own)), method)
+
+    def test_static_and_class_methods(self):
+        for (module, name), methods in OFF_THE_CLASS.items():
+            kind = self.found(module, name)
+            for method in methods:
+                word = method.split("(")[0]
+                self.assertIn(word, vars(kind))
+                self.assertEqual(word + str(inspect.signature(getattr(kind, word))), method)
