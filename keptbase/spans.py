@@ -16,6 +16,11 @@ def rank(content):
     return (0, 0) if content is None else (1, content)
 
 
+def ranks(contents):
+    """Return a list by which tuples of contents are ordered, content by content."""
+    return [rank(content) for content in contents]
+
+
 def is_stretch(value):
     """Tell whether a value of any kind is a stretch."""
     if not isinstance(value, tuple) or len(value) != 2:

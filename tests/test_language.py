@@ -116,7 +116,7 @@ class Language(KeptCase):
             needs = {stem: wanted for stem, wanted in needs.items() if stem not in free}
 
     def test_statements_and_expressions(self):
-        banned = (ast.GeneratorExp, ast.Await, ast.Set, ast.NamedExpr, ast.Div, ast.Yield, ast.YieldFrom)
+        banned = (ast.GeneratorExp, ast.Await, ast.Set, ast.NamedExpr, ast.Div)
         for where, node in self.nodes(ast.stmt):
             self.assertIsInstance(node, STATEMENTS, where)
         for where, node in self.nodes(*banned):
@@ -144,6 +144,23 @@ class Language(KeptCase):
             self.assertEqual(len(names), len(set(names)), where)
             if "__getitem__" in names:
                 self.assertIn("__iter__", names, where)
+
+    def test_generators_are_iterated_at_once(self):
+        yields = {node.name for _, node in self.nodes(ast.FunctionDef)
+                  if any(isinstance(part, (ast.Yield, ast.YieldFrom)) for part in ast.walk(node))}
+        self.assertFalse(any(name.startswith("__") for name in yields))
+        self.assertEqual(len(yields), len([node for _, node in self.nodes(ast.FunctionDef) if node.name in yields]))
+        used = [node for _, node in self.nodes(ast.Name) if node.id in yields]
+        fine = []
+        for _, node in self.nodes(ast.For, ast.comprehension, ast.YieldFrom, ast.Call):
+            if isinstance(node, ast.Call):
+                fine += node.args if name_of(node) in ("list", "tuple", "sorted", "any", "all", "sum") else []
+            else:
+                fine.append(node.value if isinstance(node, ast.YieldFrom) else node.iter)
+        fine = {id(node.func) for node in fine if isinstance(node, ast.Call)}
+        self.assertTrue(all(id(node) in fine for node in used))
+        for where, node in self.nodes(ast.Yield, ast.YieldFrom):
+            self.assertIn(id(node), {id(part.value) for _, part in self.nodes(ast.Expr)}, where)
 
     def test_names(self):
         for stem, tree in self.trees.items():
