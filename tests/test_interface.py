@@ -21,6 +21,25 @@ FUNCTIONS = {
     "sights": ["sign_of(table, test, row)"],
     "contributions": ["nothing(question)", "shown_contents(question, key, row)",
                       "contribution(question, key, row, sight)", "contributing(question)"],
+    "answers": ["answer(question, store, sight)", "combine(question, first, second)", "less(question, whole, part)"],
+    "cases": ["cases(table, condition, told=None)"],
+    "reach": ["reach_keys(question, told)", "reaching(question, told)"],
+    "footprints": ["contributing_keys(question)", "turning_keys(question, column)", "footprint(question)"],
+    "witnesses": ["witness(question, cell)", "alike(first, second)", "parted(first, second)", "hiding(question)"],
+    "forms": ["differing(first, second)"],
+    "formal": ["condition_form(condition, table, key, row)", "formal(question, store)",
+               "read_answer(question, forms, sight)"],
+    "looks": ["look(question, layer)", "look_between(question, first, second)",
+              "changed_by(question, known, seen, sight)"],
+    "lookparting": ["parting_sight(first, second)", "disturbance(question, layer)"],
+    "told": ["told_signs(question, layer, sight)", "untouched_for(question, layer)"],
+    "resting": ["rest_question(question, layer, sight, kept)", "finished(question, layer, sight, heard)"],
+    "mending": ["mended(question, layer, sight, kept)", "brought_on(question, layer, sight, kept, store)"],
+    "keptparting": ["kept_parting(question, layer, sight, kept)"],
+    "transactions": ["independent(first, second)"],
+    "running": ["run(history, base, sight, choosers)", "run_in_order(history, order, base, sight, choosers)"],
+    "graphs": ["edges(history)", "graph_of(history)"],
+    "orders": ["keeps(graph, order)", "first_order(graph)", "orders(graph)", "order_count(graph)"],
 }
 
 CLASSES = {
@@ -61,12 +80,32 @@ CLASSES = {
     ("conditions", "Either(*parts)"): [],
     ("conditions", "Not(part)"): [],
     ("questions", "Question(schema, kind, table, shown=(), *, where=None)"): ["narrowed(self, condition)"],
+    ("cases", "Case(span, spans, truths, passed)"): ["sample_row(self)"],
+    ("forms", "Form(terms=())"): [
+        "__add__(self, other)", "__radd__(self, other)", "__sub__(self, other)", "__rsub__(self, other)",
+        "__mul__(self, other)", "__rmul__(self, other)", "__neg__(self)", "__eq__(self, other)", "__bool__(self)",
+        "coefficient(self, signs)", "sign_list(self)", "when(self, signs)", "under(self, sight)",
+        "told(self, sign, truth)"],
+    ("formal", "FormTable(entries=())"): [
+        "__iter__(self)", "__add__(self, other)", "__sub__(self, other)", "__neg__(self)", "__eq__(self, other)",
+        "__bool__(self)", "form_at(self, mark)"],
+    ("writes", "Write()"): [],
+    ("writes", "SetCell(table, key, column)"): [],
+    ("writes", "PutRow(table, key)"): [],
+    ("writes", "Sweep(table, span, column)"): [],
+    ("transactions", "Transaction(schema, asks=(), writes=())"): ["hearing(self, store, sight)", "effect(self, store, choices)"],
+    ("choosers", "Fixed(choices)"): ["__call__(self, transaction, hearing)"],
+    ("choosers", "Mixed(seed, factor)"): ["__call__(self, transaction, hearing)"],
+    ("running", "Run(turns, stores, hearings, choices)"): [],
+    ("histories", "History(schema, entries=())"): ["with_entry(self, transaction, seen)", "without(self, numbers)"],
+    ("graphs", "Graph(size, arrows=())"): ["path(self, start, goal)", "ring(self)"],
 }
 
 OFF_THE_CLASS = {
     ("spans", "Span"): ["everything()", "numbers()", "of(*contents)", "read(text)"],
     ("parts", "Part"): ["of(store, places)"],
     ("areas", "Area"): ["of(schema, cells)", "whole(schema)"],
+    ("forms", "Form"): ["of(sign)", "whole(number)"],
 }
 
 
