@@ -51,10 +51,9 @@ def joined_sides(parts, table, box):
     passed = [box]
     failed = []
     for part in parts:
-        before = passed
+        pairs = [sides(part, table, found) for found in passed]
         passed = []
-        for found in before:
-            inside, outside = sides(part, table, found)
+        for inside, outside in pairs:
             passed.extend(inside)
             failed.extend(outside)
     return (passed, failed)

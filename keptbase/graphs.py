@@ -52,7 +52,7 @@ class Graph:
         reached = {}
         while paths:
             longer = []
-            for nodes in paths:
+            for nodes in list(paths):
                 for node in self._following(nodes[-1]):
                     if node == goal:
                         return [*nodes, node]

@@ -56,7 +56,7 @@ def order_count(graph):
     ways = {(): 1}
     for _ in range(graph.size):
         longer = {}
-        for placed, many in ways.items():
+        for placed, many in list(ways.items()):
             for node in next_nodes(graph, placed):
                 wider = tuple(sorted([*placed, node]))
                 longer[wider] = longer.get(wider, 0) + many

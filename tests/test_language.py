@@ -41,6 +41,58 @@ def is_fresh(node):
     return isinstance(node, (ast.List, ast.Dict, ast.ListComp))
 
 
+def choices_of(node):
+    """The expressions whose value an expression may have as it stands: itself, or the members of a choice."""
+    if isinstance(node, ast.IfExp):
+        return [*choices_of(node.body), *choices_of(node.orelse)]
+    if isinstance(node, ast.BoolOp):
+        return [found for part in node.values for found in choices_of(part)]
+    return [node]
+
+
+def names_of_one_value(function):
+    """For each name, attribute or item of a function, by its text, all those that may name the same list or dict."""
+    groups = {}
+    for node in ast.walk(function):
+        if not isinstance(node, ast.Assign):
+            continue
+        for target in node.targets:
+            both = isinstance(target, ast.Tuple) and isinstance(node.value, ast.Tuple)
+            pairs = zip(target.elts, node.value.elts) if both else [(target, node.value)]
+            for one, value in pairs:
+                for other in choices_of(value):
+                    if isinstance(one, (ast.Name, ast.Attribute, ast.Subscript)) and isinstance(other, (ast.Name, ast.Attribute)):
+                        joined = groups.get(ast.unparse(one), {ast.unparse(one)}) | groups.get(ast.unparse(other), {ast.unparse(other)})
+                        groups.update({name: joined for name in joined})
+    return groups
+
+
+def values_behind(node, shared):
+    """The names, by their text, of what an expression may stand for."""
+    texts = [ast.unparse(part) for part in choices_of(node)]
+    return {name for text in texts for name in shared.get(text, {text})}
+
+
+def walked_values(node, shared):
+    """The names of the lists and dicts that a loop over an expression walks."""
+    if isinstance(node, ast.Call) and name_of(node) in ("enumerate", "zip", "reversed"):
+        return {name for part in node.args for name in walked_values(part, shared)}
+    if isinstance(node, ast.Call) and isinstance(node.func, ast.Attribute) and name_of(node) in ("items", "keys", "values"):
+        return values_behind(node.func.value, shared)
+    return values_behind(node, shared)
+
+
+def changed_values(node):
+    """The expressions whose lists or dicts a statement or a call changes."""
+    if isinstance(node, ast.Call) and isinstance(node.func, ast.Attribute) and name_of(node) in CHANGING:
+        return [node.func.value]
+    if isinstance(node, ast.AugAssign) and not isinstance(node.value, ast.Constant):
+        return [node.target]
+    if isinstance(node, ast.Subscript) and isinstance(node.ctx, (ast.Store, ast.Del)):
+        return [node.value]
+    return []
+
+
 class Language(KeptCase):
     def setUp(self):
         self.texts = {path.stem: path.read_bytes().decode("ascii") for path in sorted(PACKAGE.glob("*.py"))}
@@ -219,11 +271,29 @@ class Language(KeptCase):
                 self.assertIn(id(node), fine, where)
 
     def test_what_is_iterated_is_not_changed(self):
-        for where, node in self.nodes(ast.For):
-            looked_at = ast.dump(node.iter)
-            for part in ast.walk(ast.Module(node.body, [])):
-                if isinstance(part, ast.Call) and name_of(part) in CHANGING and isinstance(part.func, ast.Attribute):
-                    self.assertNotEqual(ast.dump(part.func.value), looked_at, where)
+        for where, function in self.nodes(ast.FunctionDef):
+            shared = names_of_one_value(function)
+            for node in [part for part in ast.walk(function) if isinstance(part, ast.For)]:
+                walked = walked_values(node.iter, shared)
+                for part in ast.walk(ast.Module(node.body, [])):
+                    for changed in changed_values(part):
+                        self.assertFalse(walked & values_behind(changed, shared), f"{where}: line {part.lineno}")
+
+    def test_a_change_behind_another_name_is_found(self):
+        rows = ["for k in xs: xs.append(k)", "ys = xs\n for k in ys: xs.append(k)", "for k in xs: xs[k] = 1",
+                "while xs:\n  ys = []\n  for k in xs: ys.append(k)\n  xs = ys", "for k, v in xs.items(): del xs[k]",
+                "for k in self.xs: self.xs.pop()", "ys = xs if xs else zs\n for k in enumerate(ys): zs.pop()",
+                "for k, v in xs.items():\n  ys[k] = v\n xs = ys", "ys, zs = zs, []\n for k in ys: zs.append(k)",
+                "for k in (xs or ys): ys.pop()", "for k in zip(xs, ys): ys += [k]"]
+        fine = ["for k in list(xs): xs.append(k)", "for k in xs: ys.append(k)", "ys = list(xs)\n for k in ys: xs.append(k)",
+                "while xs:\n  ys = []\n  for k in list(xs): ys.append(k)\n  xs = ys", "for k in self.xs: self.ys.pop()",
+                "many = 0\n for k in xs: many += 1\n xs = many"]
+        for at, row in enumerate([*rows, *fine]):
+            self.trees = {"tried": ast.parse("def tried(self, xs, ys, zs):\n " + row + "\n return 1")}
+            if at >= len(rows):
+                self.test_what_is_iterated_is_not_changed()
+            else:
+                self.assertRaises(AssertionError, self.test_what_is_iterated_is_not_changed)
 
     def test_what_operators_call_changes_nothing(self):
         defined = self.defined()
