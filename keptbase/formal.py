@@ -2,27 +2,33 @@
 
 from keptbase.conditions import Both, Either, Not, Unseen
 from keptbase.contributions import counted_answer, nothing, shown_contents
-from keptbase.forms import Form
+from keptbase.forms import Form, as_form
 from keptbase.sights import sign_of
 from keptbase.spans import rank
 
 
 def condition_form(condition, table, key, row):
     """Return the form that is 1 under the sights under which a row counts, and 0 under the others."""
+    return as_form(truth_form(condition, table, key, row))
+
+
+def truth_form(condition, table, key, row):
+    """Return the form of a condition at a row, or the integer 1 or 0 if no unseen test is asked for it."""
     if isinstance(condition, Unseen):
         return Form.of(sign_of(table, condition.test, row))
     if isinstance(condition, Both):
-        return joint_form([condition_form(part, table, key, row) for part in condition.parts])
+        return joint_form([truth_form(part, table, key, row) for part in condition.parts])
     if isinstance(condition, Either):
-        return 1 - joint_form([1 - condition_form(part, table, key, row) for part in condition.parts])
+        return 1 - joint_form([1 - truth_form(part, table, key, row) for part in condition.parts])
     if isinstance(condition, Not):
-        return 1 - condition_form(condition.part, table, key, row)
-    return Form.whole(1 if condition.judge(table, key, row, {}) else 0)
+        return 1 - truth_form(condition.part, table, key, row)
+    return 1 if condition.judge(table, key, row, {}) else 0
 
 
 def joint_form(forms):
-    """Return the product of all listed forms."""
-    found = Form.whole(1)
+    """Return the product of all listed forms and integers."""
+    # Integers are far less work than forms, and most leaves of a condition are no unseen tests.
+    found = 1
     for form in forms:
         found = found * form
     return found

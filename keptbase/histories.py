@@ -16,11 +16,21 @@ def check_entries(size, numbers):
             raise NoSuchEntry(number)
 
 
-def check_seen(seen):
-    """Raise an error for the first entry that cannot have seen the number that it has."""
-    for at, number in enumerate(seen):
-        if not is_numbered(number, 0, at):
-            raise InvalidSeen(at + 1)
+def check_seen(entry, number):
+    """Raise an error if an entry cannot have seen this number of entries."""
+    if not is_numbered(number, 0, entry - 1):
+        raise InvalidSeen(entry)
+
+
+def entries_but(size, numbers):
+    """Return the ascending list of the entries but the listed ones; raise an error for what is no entry."""
+    check_entries(size, numbers)
+    return [entry for entry in range(1, size + 1) if entry not in numbers]
+
+
+def seen_among(seen, left):
+    """Return for each of the entries that are left how many of these it has seen."""
+    return [len([other for other in left if other <= seen[entry - 1]]) for entry in left]
 
 
 class History:
@@ -32,7 +42,8 @@ class History:
         self.transactions = tuple([transaction for transaction, _ in listed])
         self.seen = tuple([number for _, number in listed])
         self.size = len(listed)
-        check_seen(self.seen)
+        for at, number in enumerate(self.seen):
+            check_seen(at + 1, number)
 
     def with_entry(self, transaction, seen):
         """Return the history with one entry more at its end."""
@@ -40,10 +51,6 @@ class History:
 
     def without(self, numbers):
         """Return the history without the listed entries."""
-        check_entries(self.size, numbers)
-        left = [number for number in range(1, self.size + 1) if number not in numbers]
-        entries = []
-        for number in left:
-            seen = [other for other in left if other <= self.seen[number - 1]]
-            entries.append((self.transactions[number - 1], len(seen)))
-        return History(self.schema, entries)
+        left = entries_but(self.size, numbers)
+        kept = [self.transactions[entry - 1] for entry in left]
+        return History(self.schema, list(zip(kept, seen_among(self.seen, left))))

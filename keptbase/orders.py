@@ -40,9 +40,10 @@ def orders_from(graph, placed):
     """Give the orders that keep all arrows and begin with the nodes that are placed."""
     if len(placed) == graph.size:
         yield placed
-    for node in next_nodes(graph, placed):
-        longer = [*placed, node]
-        yield from orders_from(graph, longer)
+    else:
+        for node in next_nodes(graph, placed):
+            longer = [*placed, node]
+            yield from orders_from(graph, longer)
 
 
 def orders(graph):

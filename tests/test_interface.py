@@ -40,6 +40,12 @@ FUNCTIONS = {
     "running": ["run(history, base, sight, choosers)", "run_in_order(history, order, base, sight, choosers)"],
     "graphs": ["edges(history)", "graph_of(history)"],
     "orders": ["keeps(graph, order)", "first_order(graph)", "orders(graph)", "order_count(graph)"],
+    "partings": ["last_writers(history, entry, ahead)", "parting(history, order)"],
+    "leaving": ["can_leave(history, numbers)", "leave_parting(history, numbers)", "leave_set(history, numbers)"],
+    "versions": ["state_of(log, numbers)", "led_stores(log, store)"],
+    "matching": ["misfit(log, order)", "is_matching(log, order)", "first_matching(log)", "matching_orders(log)"],
+    "taking": ["taking_misfit(log, number)", "can_take_out(log, number)"],
+    "crossing": ["log_of(history, run)", "crossing(layer, transaction)"],
 }
 
 CLASSES = {
@@ -99,7 +105,12 @@ CLASSES = {
     ("running", "Run(turns, stores, hearings, choices)"): [],
     ("histories", "History(schema, entries=())"): ["with_entry(self, transaction, seen)", "without(self, numbers)"],
     ("graphs", "Graph(size, arrows=())"): ["path(self, start, goal)", "ring(self)"],
+    ("partings", "Parting(base, sight, choosers, entry, asked, heard, other)"): [],
+    ("logs", "Log(schema, entries=())"): ["bears(self, store)", "with_entry(self, asks, seen, layer)", "without(self, number)"],
+    ("matching", "Misfit(entry, cell=None, asked=None, sight=None, heard=None, other=None)"): [],
 }
+
+PROPERTIES = {("layers", "Layer"): ["old", "new"], ("questions", "Question"): ["heaping"]}
 
 OFF_THE_CLASS = {
     ("spans", "Span"): ["everything()", "numbers()", "of(*contents)", "read(text)"],
@@ -138,3 +149,8 @@ class Interface(KeptCase):
                 word = method.split("(")[0]
                 self.assertIn(word, vars(kind))
                 self.assertEqual(word + str(inspect.signature(getattr(kind, word))), method)
+
+    def test_properties(self):
+        for (module, name), listed in PROPERTIES.items():
+            for word in listed:
+                self.assertIsInstance(vars(self.found(module, name))[word], property)

@@ -50,6 +50,12 @@ class Orders(KeptCase):
         first = next(found)
         first.append("more")
         self.assertEqual(list(found), [[3, 1, 2], [3, 2, 1]])
+        for change in (lambda order: order.pop(), lambda order: order.clear(), lambda order: order.reverse()):
+            told = []
+            for order in orders(Graph(3, [(3, 2)])):
+                told.append(tuple(order))
+                change(order)
+            self.assertEqual(told, [(1, 3, 2), (3, 1, 2), (3, 2, 1)])
         everything = list(orders(Graph(4)))
         self.assertEqual(len({id(order) for order in everything}), 24)
         first_order(Graph(2)).append("more")
