@@ -1,4 +1,5 @@
 import keptbase.errors
+import keptbase.refusals
 from helpers import NO_CONTENTS, KeptCase
 from keptbase.errors import KeptError
 
@@ -14,17 +15,23 @@ InvalidOrder(listing) InvalidArrow(arrow) NotLinked(entry,table,key) InvalidCoun
 SameTable(table) CommonPlace(table,key)
 """
 
+REFUSALS = """
+InvalidMode(mode) NameTaken(name) NoSuchName(name) NoSuchVersion(number) Over(name) Overtaken(cell) Broken(rule)
+Ringed(ring_names) Unmatched(name) Busy(name) Heard(name)
+"""
+
 
 class Errors(KeptCase):
     def setUp(self):
         self.listed = {}
-        for word in LISTED.split():
-            name, attributes = word.rstrip(")").split("(")
-            self.listed[name] = attributes.split(",") if attributes else []
+        for module, text in ((keptbase.errors, LISTED), (keptbase.refusals, REFUSALS)):
+            for word in text.split():
+                name, attributes = word.rstrip(")").split("(")
+                self.listed[module, name] = attributes.split(",") if attributes else []
 
     def test_every_listed_error_keeps_its_attributes(self):
-        for name, attributes in self.listed.items():
-            kind = getattr(keptbase.errors, name)
+        for (module, name), attributes in self.listed.items():
+            kind = getattr(module, name)
             for value in NO_CONTENTS:
                 values = [value, "second", 3][:len(attributes)]
                 for error in (kind(*values), kind(**dict(zip(attributes, values)))):
@@ -34,10 +41,13 @@ class Errors(KeptCase):
                     self.assertIsInstance(str(error), str)
 
     def test_each_is_a_direct_subclass_of_kept_error(self):
-        for name in self.listed:
-            self.assertEqual(getattr(keptbase.errors, name).__bases__, (KeptError,))
+        for module, name in self.listed:
+            self.assertEqual(getattr(module, name).__bases__, (KeptError,))
+            self.assertEqual(getattr(module, name).__module__, module.__name__)
         self.assertEqual(KeptError.__bases__, (ValueError,))
 
     def test_there_are_no_others(self):
-        own = [name for name, value in vars(keptbase.errors).items() if isinstance(value, type)]
-        self.assertEqual(sorted(own), sorted([*self.listed, "KeptError"]))
+        own = [(module, name) for module in (keptbase.errors, keptbase.refusals)
+               for name, value in vars(module).items() if isinstance(value, type)]
+        more = [(keptbase.errors, "KeptError"), (keptbase.refusals, "KeptError")]
+        self.assertEqual(sorted(own, key=repr), sorted([*self.listed, *more], key=repr))

@@ -46,6 +46,12 @@ FUNCTIONS = {
     "matching": ["misfit(log, order)", "is_matching(log, order)", "first_matching(log)", "matching_orders(log)"],
     "taking": ["taking_misfit(log, number)", "can_take_out(log, number)"],
     "crossing": ["log_of(history, run)", "crossing(layer, transaction)"],
+    "rulefeet": ["rule_footprint(rule)", "rule_witness(rule, cell)"],
+    "verdicts": ["verdict(rule, layer)", "untouched_keys(layer, table)"],
+    "checks": ["checks(rule, layer)", "check_stores(rule, layer)"],
+    "jointly": ["break_together(rule, first, second)"],
+    "bringing": ["brought(question, layer, store, sight, known)"],
+    "reports": ["report(desk)"],
 }
 
 CLASSES = {
@@ -108,9 +114,21 @@ CLASSES = {
     ("partings", "Parting(base, sight, choosers, entry, asked, heard, other)"): [],
     ("logs", "Log(schema, entries=())"): ["bears(self, store)", "with_entry(self, asks, seen, layer)", "without(self, number)"],
     ("matching", "Misfit(entry, cell=None, asked=None, sight=None, heard=None, other=None)"): [],
+    ("rules", "Rule(schema)"): ["kept_on(self, store)"],
+    ("rules", "Within(question, span)"): ["failure(self, store)"],
+    ("rules", "Unique(schema, table, column)"): ["failure(self, store)"],
+    ("rules", "Refers(schema, table, column, target)"): ["failure(self, store)"],
+    ("works", "Work(desk, name, seen, snapshot)"): [
+        "hear(self, question)", "set_cell(self, table, key, column, content)", "put_row(self, table, key, row)",
+        "sweep(self, table, span, column, content)", "commit(self)", "drop(self)", "as_transaction(self)", "as_layer(self)",
+        "__enter__(self)", "__exit__(self, kind, value, trace)"],
+    ("desk", "Desk(schema, rules, store, *, sight=None, mode='areas')"): [
+        "at(self, version)", "begin(self, name)", "open_works(self)", "keep(self, name, question)", "kept(self, name)",
+        "ways(self, name)", "undo(self, name)", "serial(self)", "as_history(self)", "as_log(self)"],
 }
 
-PROPERTIES = {("layers", "Layer"): ["old", "new"], ("questions", "Question"): ["heaping"]}
+PROPERTIES = {("layers", "Layer"): ["old", "new"], ("questions", "Question"): ["heaping"],
+              ("desk", "Desk"): ["version", "newest", "names", "kept_names"]}
 
 OFF_THE_CLASS = {
     ("spans", "Span"): ["everything()", "numbers()", "of(*contents)", "read(text)"],

@@ -12,7 +12,6 @@ from keptbase.partings import Parting, last_writers, parting
 from keptbase.questions import Question
 from keptbase.running import run, run_in_order
 from keptbase.schema import Schema, Table
-from keptbase.sights import Sight
 from keptbase.spans import Span
 from keptbase.stores import Store
 from keptbase.transactions import Transaction, independent
