@@ -51,14 +51,13 @@ def changed_writer(first, second):
 
 
 def content_for(schema, write, stores):
-    """Return the content that the first of some stores has in a cell of a write, or any if none has one."""
+    """Return the content in a write's column that the first of some stores with a row has, or any if none has one."""
     table = schema.table_of(write.table)
-    area = write.written_area(schema)
+    rows = []
     for store in stores:
-        for key, row in store.listed_rows(write.table):
-            if (write.table, key, write.column) in area:
-                return picked(table, row, [write.column])[0]
-    return table.domain_of(write.column).nearest(0)
+        rows.extend([row for _, row in store.listed_rows(write.table)])
+    # Where a store has no row it does not matter what is written, so it may be what its one row has elsewhere.
+    return picked(table, rows[0], [write.column])[0] if rows else table.domain_of(write.column).nearest(0)
 
 
 def choice_for(schema, write, stores):
@@ -66,17 +65,12 @@ def choice_for(schema, write, stores):
     if isinstance(write, PutRow):
         return stores[0].row(write.table, write.key)
     content = content_for(schema, write, stores)
-    # The stores have at most one row, so one content serves at all keys of a sweep.
     return (content, ()) if isinstance(write, Sweep) else content
 
 
-def fixed_for(transaction, cell, stores):
-    """Return a chooser that puts what the first of some stores has, but the last of them by the write of a cell."""
-    choices = []
-    for write in transaction.writes:
-        has_cell = cell is not None and cell in write.written_area(transaction.schema)
-        choices.append(choice_for(transaction.schema, write, stores[::-1] if has_cell else stores))
-    return Fixed(choices)
+def fixed_for(transaction, stores):
+    """Return a chooser that puts what the first of two stores has, or the other one where it has no row."""
+    return Fixed([choice_for(transaction.schema, write, stores) for write in transaction.writes])
 
 
 def asked_about(transaction, cell):
@@ -92,8 +86,8 @@ def staged(history, entry, writer, cell):
     base, changed, sight = witness(reader.all_asks[asked], cell)
     choosers = []
     for number, transaction in enumerate(history.transactions, start=1):
-        own = cell if number == writer else None
-        choosers.append(fixed_for(transaction, own, (base, changed)))
+        # The stores differ in the cell alone, so of what the writer puts only this cell differs.
+        choosers.append(fixed_for(transaction, (changed, base) if number == writer else (base, changed)))
     return (asked, base, sight, tuple(choosers))
 
 

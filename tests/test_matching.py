@@ -195,6 +195,17 @@ class Matching(KeptCase):
                 self.assertEqual(told, full if holds else empty)
             self.assertIs(type(found.sight), Sight)
 
+    def test_a_row_that_moves_to_another_key(self):
+        """The shown contents stay as they are, which only "first" and a shown key can tell."""
+        schema = Schema([Table("a", Span.read("1.."), [("n", Span.numbers())])])
+        moved = Layer(schema, [("a", 1, (7,), None), ("a", 2, None, (7,))])
+        for kind, shown, told in (("first", ["n"], ((1, (7,)), (2, (7,)))), ("first", ["key"], ((1, (1,)), (2, (2,)))), ("least", ["n"], None),
+                                  ("rows", ["n"], None), ("rows", ["key", "n"], ([(1, 7)], [(2, 7)])), ("count", [], None), ("some", [], None)):
+            log = Log(schema, [([], 0, moved), ([Question(schema, kind, "a", shown)], 0, Layer(schema))])
+            found = misfit(log, [1, 2])
+            self.assertEqual(None if found is None else (found.heard, found.other), told)
+            self.assertEqual(first_matching(log), [1, 2] if told is None else [2, 1])
+
     def test_a_generator_of_new_lists(self):
         schema = WORLDS[0].schema
         log = Log(schema, [([], 0, Layer(schema))] * 3)

@@ -48,17 +48,19 @@ def place_area(layer):
 
 class Verdicts(KeptCase):
     def test_random_layers_on_all_stores(self):
-        chance, seen = random.Random(81), set()
+        chance, seen, asking = random.Random(81), set(), set()
         for rule in RULES:
-            for layer in [Layer(rule.schema), *random_layers(chance, rule, 14)]:
+            for layer in [Layer(rule.schema), *random_layers(chance, rule, 12 if kind_of(rule) == "Within" else 150)]:
                 found = fitted(rule, layer)
                 told = verdict(rule, layer)
                 self.assertEqual(told, verdict_by_words(found))
                 seen.add((kind_of(rule), told))
+                asking.add((kind_of(rule), tuple(check.question.table for check in checks(rule, layer))))
                 self.check_checks(rule, layer, told, found)
                 self.check_check_stores(rule, layer, told)
         kinds = ("void", "keeps", "breaks", "asks")
         self.assertEqual(seen, {(kind, told) for kind in ("Within", "Unique", "Refers") for told in kinds})
+        self.assertLessEqual({("Refers", tables) for tables in (("u",), ("t",), ("u", "t"))}, asking)
 
     def check_checks(self, rule, layer, told, found):
         """Points 98 and 99."""
@@ -126,6 +128,7 @@ class Verdicts(KeptCase):
                                     ([("sale", key, (1,), None) for key in range(1, 10)] + [("item", 1, (0,), None)], "keeps", [])):
             layer = Layer(SALES, changes)
             self.assertEqual((verdict(rule, layer), [check.span.nearest(0) for check in checks(rule, layer)]), (told, many))
+            self.check_check_stores(rule, layer, told)
 
     def test_empty_layers(self):
         for rule in RULES:
