@@ -12,7 +12,8 @@ from keptbase.spans import Span
 def untouched_keys(layer, table):
     """Return the span of the keys of a table at which a layer has no change."""
     keys = layer.schema.table_of(table).key_span
-    return keys - Span.of(*layer.old.told_keys(table))
+    told = layer.old.told_keys(table)
+    return keys - Span.of(*told)
 
 
 def verdict(rule, layer):

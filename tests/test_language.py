@@ -93,6 +93,17 @@ def changed_values(node):
     return []
 
 
+def is_plain(node, properties):
+    """Whether an expression may stand behind a star: a name, an attribute off a name, a literal, or a list of such."""
+    if isinstance(node, (ast.List, ast.Tuple)):
+        return all(is_plain(part, properties) for part in node.elts)
+    if isinstance(node, ast.Dict):
+        return all(part is not None and is_plain(part, properties) for part in [*node.keys, *node.values])
+    if isinstance(node, ast.Attribute):
+        return isinstance(node.value, ast.Name) and node.attr not in properties
+    return isinstance(node, (ast.Name, ast.Constant))
+
+
 class Language(KeptCase):
     def setUp(self):
         self.texts = {path.stem: path.read_bytes().decode("ascii") for path in sorted(PACKAGE.glob("*.py"))}
@@ -117,6 +128,25 @@ class Language(KeptCase):
                         if isinstance(part, ast.FunctionDef) and part.name == "__init__":
                             found.setdefault(node.name, []).append((f"{stem}:{part.lineno}", part))
         return found
+
+    def properties(self):
+        """The names of all properties of the package."""
+        return {node.name for _, node in self.nodes(ast.FunctionDef)
+                if any(mark.id == "property" for mark in node.decorator_list)}
+
+    def error_classes(self):
+        """The names of all error classes of the package: the classes that have a builtin class above them."""
+        bases = {node.name: [base.id for base in node.bases] for _, node in self.nodes(ast.ClassDef)}
+        found = set()
+        for _ in bases:
+            found |= {name for name, above in bases.items() if any(hasattr(builtins, base) or base in found for base in above)}
+        return found
+
+    def has_keys(self):
+        """Whether a class of the package has a method or an attribute called keys."""
+        methods = [part.name for _, node in self.nodes(ast.ClassDef) for part in node.body if isinstance(part, ast.FunctionDef)]
+        stored = [node.attr for _, node in self.nodes(ast.Attribute) if isinstance(node.ctx, ast.Store)]
+        return "keys" in methods or "keys" in stored
 
     def test_files(self):
         names = [path.name for path in PACKAGE.iterdir() if path.name != "__pycache__"]
@@ -270,6 +300,61 @@ class Language(KeptCase):
             if isinstance(node, ast.SetComp) or name_of(node) in ("set", "frozenset"):
                 self.assertIn(id(node), fine, where)
 
+    def test_stars_in_calls(self):
+        own, errors, properties = set(self.defined()), self.error_classes(), self.properties()
+        for where, node in self.nodes(ast.Call):
+            stars = [part for part in node.args if isinstance(part, ast.Starred)]
+            doubles = [part.value for part in node.keywords if part.arg is None]
+            if not stars and not doubles:
+                continue
+            if isinstance(node.func, ast.Name):
+                free = name_of(node) in ("max", "min", "zip") or not hasattr(builtins, name_of(node))
+                self.assertTrue(free and name_of(node) not in errors, where)
+            else:
+                self.assertIn(name_of(node), own, where)
+            plain = [part.value for part in stars]
+            if doubles:
+                self.assertEqual(len(node.keywords), 1, where)
+                self.assertIsInstance(doubles[0], (ast.Name, ast.Attribute), where)
+                self.assertFalse(self.has_keys(), where)
+                plain += [*[part for part in node.args if part not in stars], *doubles]
+            self.assertTrue(all(is_plain(part, properties) for part in plain), where)
+            for word in node.keywords:
+                self.assertFalse([part for part in stars if (part.lineno, part.col_offset)
+                                  > (word.value.lineno, word.value.col_offset)], where)
+
+    def test_stars_in_literals(self):
+        for where, node in self.nodes(ast.Subscript):
+            items = node.slice.elts if isinstance(node.slice, ast.Tuple) else []
+            self.assertFalse([part for part in items if isinstance(part, ast.Starred)], where)
+        for where, node in self.nodes(ast.Dict):
+            self.assertFalse(None in node.keys and self.has_keys(), where)
+
+    def test_a_wrong_star_is_found(self):
+        head = ("class Wrong(ValueError):\n def __init__(self, *xs): self.held = xs\n"
+                "class Worse(Wrong):\n pass\n"
+                "class Box:\n def told(self): return 1\n @property\n def many(self): return 1\n"
+                "def sized(*xs, k=1): return 1\n")
+        rows = ["sized(*xs.told())", "sized(*xs.held.told())", "sized(*told())", "sized(*xs.held.held)", "sized(*xs.many)",
+                "sized(*xs[0])", "sized(*xs[1:])", "sized(*xs + ys)", "sized(*(xs or ys))", "sized(*[k for k in xs])",
+                "sized(*[len(xs)])", "sized(*(1, xs[0]))", "sized(*{1: ys.told()})", "sized(*[*xs])", "sized(*{**xs})",
+                "sized(*xs, *ys.told())", "xs - sized(*ys.told())", "sized(k=1, *xs)", "sized(len(xs), **ys)",
+                "sized(**xs.held.held)", "sized(**xs.many)", "sized(**xs.told())", "sized(**{1: 2})", "sized(k=1, **xs)",
+                "sized(**xs, **ys)", "self.keys = 1\n sized(**xs)", "Wrong(*xs)", "Worse(*xs)", "ValueError(*xs)",
+                "sum(*xs)", "xs.append(*ys)", "xs[0](*ys)", "xs[*ys, 1]", "self.keys = 1\n xs = {**ys}"]
+        fine = ["sized(*xs)", "sized(1, *xs)", "sized(len(xs), *ys)", "sized(*xs.held)", "sized(*xs, 2, k=3)", "sized(*'ab')",
+                "sized(*[xs, xs.held, 1, (ys,), {1: xs}])", "sized(1, xs.held, **ys)", "sized(**xs.held)", "max(*xs)",
+                "min(*xs, key=len)", "told = xs.told()\n sized(*told)", "zs(*xs)", "Box(*xs)", "xs.told(*ys)",
+                "xs = [*ys.told(), 1]", "xs = {**ys.told(), 1: 2}", "super().__init__(*xs, **ys)"]
+        for at, row in enumerate([*rows, *fine]):
+            self.trees = {"tried": ast.parse(head + "def tried(self, xs, ys, zs):\n " + row + "\n return 1")}
+            with self.subTest(row):
+                if at >= len(rows):
+                    self.test_stars_in_calls()
+                    self.test_stars_in_literals()
+                else:
+                    self.assertRaises(AssertionError, lambda: (self.test_stars_in_calls(), self.test_stars_in_literals()))
+
     def test_what_is_iterated_is_not_changed(self):
         for where, function in self.nodes(ast.FunctionDef):
             shared = names_of_one_value(function)
@@ -298,8 +383,7 @@ class Language(KeptCase):
     def test_what_operators_call_changes_nothing(self):
         defined = self.defined()
         names = [name for name in defined if name in PURE]
-        names += [node.name for _, node in self.nodes(ast.FunctionDef)
-                  if any(mark.id == "property" for mark in node.decorator_list)]
+        names += sorted(self.properties())
         reached = set()
         while names:
             name = names.pop()
